@@ -1,0 +1,1 @@
+"""Phrases put together: a small translating machine."""
