@@ -35,7 +35,7 @@ class Machine:
         self.wide = WIDEST
 
     def add_phrase(self, cost, source, target):
-        if cost > HIGHEST_COST or not is_source(source) or not is_target(target):
+        if cost > HIGHEST_COST or not is_source(source) or not is_sentence(target, LONGEST_TARGET):
             return WRONG
         if len(self.phrases) >= MOST_PHRASES:
             return FULL
@@ -50,6 +50,13 @@ class Machine:
             return NO_SUCH_PHRASE
         self.phrases = kept
         return len(kept)
+
+    # None, if there is no such phrase.
+    def phrase_numbered(self, number):
+        for phrase in self.phrases:
+            if phrase.number == number:
+                return phrase
+        return None
 
     def tell_pair(self, first, second, cost):
         if first > HIGHEST_WORD or second > HIGHEST_WORD or cost > NO_MORE:
@@ -79,9 +86,9 @@ def are_words(numbers):
     return all([1 <= number <= HIGHEST_WORD for number in numbers])
 
 
+def is_sentence(numbers, longest):
+    return len(numbers) <= longest and are_words(numbers)
+
+
 def is_source(numbers):
-    return 1 <= len(numbers) <= LONGEST_SOURCE and are_words(numbers)
-
-
-def is_target(numbers):
-    return len(numbers) <= LONGEST_TARGET and are_words(numbers)
+    return len(numbers) > 0 and is_sentence(numbers, LONGEST_SOURCE)

@@ -1,4 +1,4 @@
-"""The ways through a sentence, and the cheapest of them."""
+"""The ways through a sentence, and the cheapest of them: of all, of those that say just this, of each that is said."""
 
 
 # The steps gone so far; a way, once every word of the sentence is taken.
@@ -13,19 +13,59 @@ class Trail:
 
 
 def cheapest_way(machine, sentence):
-    whole = bits_between(0, len(sentence))
-    best = None
-    trails = [Trail(0, [], [], 0, 0)]
+    return cheapest_of(whole_ways(machine, sentence, taken_and_last_word, None))
+
+
+def cheapest_way_to_say(machine, sentence, said):
+    ways = whole_ways(machine, sentence, taken_and_words, said)
+    return cheapest_of([way for way in ways if way.words == said])
+
+
+def cheapest_sentences(machine, sentence, much):
+    ways = first_of_each(whole_ways(machine, sentence, taken_and_words, None), words_of)
+    return sorted(ways, key=order_of)[:much]
+
+
+# None, if these steps are no way through the sentence.
+def way_by_steps(machine, sentence, steps):
+    # Half a step is none.
+    if len(steps) % 2 != 0:
+        return None
+    trail = beginning()
+    for place in range(0, len(steps), 2):
+        phrase = machine.phrase_numbered(steps[place + 1])
+        if phrase is None or not may_step(machine, sentence, trail, steps[place], phrase):
+            return None
+        trail = stepped(machine, trail, steps[place], phrase)
+    return closed(machine, trail) if is_whole(sentence, trail) else None
+
+
+# Not all of them: of the trails with the same standing only the first goes on, or there would
+# be far too many. said is what the ways are to say, None if they may say anything.
+def whole_ways(machine, sentence, standing_of, said):
+    ways = []
+    trails = [beginning()]
     while len(trails) > 0:
-        for trail in trails:
-            if trail.taken == whole:
-                best = first_of(best, closed(machine, trail))
-        trails = best_of_each_standing(longer_trails(machine, sentence, trails))
-    return best
+        ways.extend([closed(machine, trail) for trail in trails if is_whole(sentence, trail)])
+        longer = longer_trails(machine, sentence, trails)
+        trails = first_of_each([trail for trail in longer if may_become(trail, said)], standing_of)
+    return ways
+
+
+def beginning():
+    return Trail(0, [], [], 0, 0)
+
+
+def is_whole(sentence, trail):
+    return trail.taken == bits_between(0, len(sentence))
 
 
 def bits_between(start, end):
     return (1 << end) - (1 << start)
+
+
+def may_become(trail, said):
+    return said is None or trail.words == said[:len(trail.words)]
 
 
 def last_word(words):
@@ -41,21 +81,36 @@ def closed(machine, trail):
 
 # Steps are a flat list, from which word and by which phrase in turn: lists are
 # compared number by number, which is just the order that decides between as cheap ways.
-def first_of(best, trail):
-    if best is None:
-        return trail
-    if trail.cost != best.cost:
-        return trail if trail.cost < best.cost else best
-    return trail if trail.steps < best.steps else best
+def order_of(trail):
+    return (trail.cost, trail.steps)
+
+
+def cheapest_of(ways):
+    return min(ways, key=order_of, default=None)
 
 
 # What is still to come costs the same behind all trails that have taken the same words,
 # ended at the same place and said the same word last: only the first of these can win.
-def best_of_each_standing(trails):
+def taken_and_last_word(trail):
+    return (trail.taken, trail.ended, last_word(trail.words))
+
+
+# Where it matters what is said, only such trails stand for one another that have said the same.
+def taken_and_words(trail):
+    return (trail.taken, trail.ended, tuple(trail.words))
+
+
+def words_of(trail):
+    return tuple(trail.words)
+
+
+# All trails that standing_of gives the same are one standing.
+def first_of_each(trails, standing_of):
     kept = {}
     for trail in trails:
-        standing = (trail.taken, trail.ended, last_word(trail.words))
-        kept[standing] = first_of(kept.get(standing), trail)
+        standing = standing_of(trail)
+        if standing not in kept or order_of(trail) < order_of(kept[standing]):
+            kept[standing] = trail
     return list(kept.values())
 
 
@@ -71,11 +126,12 @@ def longer_trails(machine, sentence, trails):
 
 def may_step(machine, sentence, trail, start, phrase):
     end = start + len(phrase.source)
+    # Asked first: a start far beyond the sentence would make far too many bits.
+    if sentence[start:end] != phrase.source:
+        return False
     if abs(start - trail.ended) > machine.wide:
         return False
-    if trail.taken & bits_between(start, end) != 0:
-        return False
-    return sentence[start:end] == phrase.source
+    return trail.taken & bits_between(start, end) == 0
 
 
 def stepped(machine, trail, start, phrase):
